@@ -1,0 +1,1 @@
+"""Markslide: markers slid so that no two touch."""

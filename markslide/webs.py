@@ -83,12 +83,16 @@ def is_tree(web):
 
 
 def hangs_together(web):
-    reached = [0]
-    rim = [0]
+    return len(hanging(web, 0, list(range(web[0])))) == web[0]
+
+
+def hanging(web, start, some):
+    reached = [start]
+    rim = [start]
     while rim:
-        rim = [spot for spot in range(web[0]) if spot not in reached and touches_any(web, spot, reached)]
+        rim = [spot for spot in some if spot not in reached and touches_any(web, spot, reached)]
         reached = reached + rim
-    return len(reached) == web[0]
+    return sorted(reached)
 
 
 def touches_any(web, spot, some):

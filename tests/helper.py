@@ -1,6 +1,8 @@
 """Webs to test with, spoilt ones too, and a going through all sets that is the tests' own."""
 
-from itertools import combinations
+from itertools import combinations, product
+
+from markslide.errors import BadMarks, BadWeb
 
 FIFTEEN = 999999999999999
 
@@ -152,6 +154,19 @@ SPOILT_MARKS = {
 }
 
 
+def check_refusals(case, ask):
+    """Of an ask that takes a web and marks: BadWeb of every spoilt web, then BadMarks of spoilt marks."""
+    for name, web in SPOILT_WEBS.items():
+        for marks in ((), (0,), (1, 0), (FIFTEEN,)):
+            with case.subTest(name, marks=marks):
+                with case.assertRaises(BadWeb):
+                    ask(web, marks)
+    for name, marks in SPOILT_MARKS.items():
+        with case.subTest(name):
+            with case.assertRaises(BadMarks):
+                ask(road(6), marks)
+
+
 def own_sets(web, size):
     """All sets of spots of that size without a line in them, as rising tuples in their order."""
     lines = [set(line) for line in web[1]]
@@ -208,3 +223,94 @@ def own_rooms(steps):
             if len(joined) == 2:
                 parts = [part for part in parts if part not in joined] + [joined[0] | joined[1]]
     return sorted(sorted(part) for part in parts)
+
+
+def own_steps_from(web, marks):
+    """Each slide of marks, found by trying every line both ways, with the set to which it leads."""
+    steps = {}
+    for line in web[1]:
+        for one, other in (line, line[::-1]):
+            if one in marks and other not in marks:
+                there = (set(marks) - {one}) | {other}
+                if not any(end in there and start in there for start, end in web[1]):
+                    steps[(one, other)] = tuple(sorted(there))
+    return steps
+
+
+def own_walk(web, start):
+    """The whole room of the start: each set in it, with the slides that may be done there."""
+    walk = {}
+    ahead = [start]
+    while ahead:
+        here = ahead.pop()
+        if here not in walk:
+            walk[here] = own_steps_from(web, here)
+            ahead += walk[here].values()
+    return walk
+
+
+def own_walks(web):
+    """Every room of a web, of all sizes."""
+    walks = []
+    housed = set()
+    for size in range(web[0] + 1):
+        for marks in own_sets(web, size):
+            if marks not in housed:
+                walk = own_walk(web, marks)
+                housed |= set(walk)
+                walks.append(walk)
+    return walks
+
+
+def tree_of(code):
+    """The tree that a list of spots codes, each spot named once less than it has lines (as Pruefer told)."""
+    count = len(code) + 2
+    left = [1 + code.count(spot) for spot in range(count)]
+    lines = []
+    for spot in code:
+        leaf = left.index(1)
+        lines.append(tuple(sorted((leaf, spot))))
+        left[leaf] -= 1
+        left[spot] -= 1
+    lines.append(tuple(spot for spot in range(count) if left[spot] == 1))
+    return (count, sorted(lines))
+
+
+def every_tree(count):
+    if count == 1:
+        return [bare(1)]
+    return [tree_of(code) for code in product(range(count), repeat=count - 2)]
+
+
+def shape_from(ends, spot, behind):
+    return "(" + "".join(sorted(shape_from(ends, other, spot) for other in ends[spot] if other != behind)) + ")"
+
+
+def shape_of(web):
+    """The same text for two trees just if one is the other with its spots renamed."""
+    ends = {spot: [sum(line) - spot for line in web[1] if spot in line] for spot in range(web[0])}
+    return min(shape_from(ends, spot, None) for spot in range(web[0]))
+
+
+def tree_shapes(most):
+    """Of each count of spots up to the most: one tree of every shape."""
+    shapes = {1: [bare(1)]}
+    for count in range(2, most + 1):
+        found = {}
+        for web in shapes[count - 1]:
+            for spot in range(web[0]):
+                longer = (count, sorted(web[1] + [(spot, web[0])]))
+                found.setdefault(shape_of(longer), longer)
+        shapes[count] = list(found.values())
+    return shapes
+
+
+def renamed(web, names):
+    """The web with each spot called by another number."""
+    return (web[0], sorted(tuple(sorted((names[one], names[other]))) for one, other in web[1]))
+
+
+def shuffled(web):
+    """The web with its spots renamed so that the numbers don't run along its roads."""
+    names = list(range(web[0]))
+    return renamed(web, names[1::3] + names[0::3][::-1] + names[2::3])

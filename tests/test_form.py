@@ -30,6 +30,11 @@ EXPRESSIONS = (
     ast.JoinedStr, ast.FormattedValue, ast.Set, ast.expr_context, ast.operator, ast.unaryop, ast.boolop, ast.cmpop,
 )
 NOT_USED = (ast.Div, ast.MatMult)
+# What Python's own values have, and which of these names an object's value may bear all the same.
+TAKEN = [name for kind in (str, int, list, tuple, dict, set, bytes, Exception) for name in dir(kind)]
+FREE_VALUES = "count index title find get join lower upper split strip copy add".split()
+WALKED_AT_ONCE = "zip enumerate reversed range".split()
+WALKERS = "list tuple dict sorted sum any all enumerate zip min max".split()
 
 
 def sources():
@@ -156,6 +161,51 @@ class Form(unittest.TestCase):
             self.assertEqual(node.keywords, [], place)
             for part in node.body:
                 self.assertIsInstance(part, (ast.FunctionDef, ast.Pass), place)
+
+    def test_methods_and_values_of_objects(self):
+        methods = {}
+        values = {}
+        for place, node in self.each(ast.ClassDef):
+            names = [part.name for part in node.body if isinstance(part, ast.FunctionDef)]
+            self.assertEqual(len(names), len(set(names)), place)
+            for name in names:
+                methods[name] = place
+                self.assertTrue(name in DUNDERS + METHODS + ["add", "discard"] or name not in TAKEN, place)
+        for place, node in self.each(ast.Attribute):
+            if isinstance(node.ctx, ast.Store):
+                values[node.attr] = place
+                self.assertIsInstance(node.value, ast.Name, place)
+                self.assertTrue(node.attr in FREE_VALUES or node.attr not in TAKEN, place)
+                self.assertRegex(node.attr, r"^[A-Za-z][A-Za-z0-9_]*$")
+        self.assertEqual(set(methods) & set(values), set())
+
+    def test_making_an_object_gives_back_nothing(self):
+        for place, node in self.each(ast.FunctionDef):
+            if node.name == "__init__":
+                self.assertFalse(any(isinstance(part, ast.Return) for part in ast.walk(node)), place)
+
+    def test_braces_hold_plain_names(self):
+        for place, node in self.each(ast.FormattedValue):
+            self.assertIsInstance(node.value, ast.Name, place)
+            self.assertIsNone(node.format_spec, place)
+            self.assertIn(node.conversion, (-1, ord("r")), place)
+
+    def test_escapes(self):
+        for name, text in self.texts.items():
+            self.assertIsNone(re.search(r"\\[^nt\\'\"]", text), name)
+
+    def test_walked_at_once(self):
+        walked = []
+        for place, node in self.each(ast.For, ast.comprehension):
+            walked.append(node.iter)
+        for place, node in self.each(ast.Call):
+            if isinstance(node.func, ast.Name) and node.func.id in WALKERS and node.args:
+                walked.append(node.args[0])
+        for place, node in self.each(ast.Call):
+            if isinstance(node.func, ast.Name) and node.func.id in WALKED_AT_ONCE:
+                self.assertIn(node, walked, place)
+            if isinstance(node.func, ast.Attribute) and node.func.attr in ("items", "keys", "values"):
+                self.assertIn(node, walked, place)
 
     def test_names(self):
         for name, tree in self.trees.items():
